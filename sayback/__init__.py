@@ -1,0 +1,1 @@
+"""Say: a text turned back into its readings."""
