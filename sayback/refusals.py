@@ -1,8 +1,12 @@
 """The refusals: an error class for each."""
 
 
-class TooLong(Exception):
-    """A text of more bytes than may be."""
+class WrongLength(Exception):
+    """A text of more bytes than may be; a text of no sign, or of more than may be."""
+
+
+class NoCharacter(Exception):
+    """A text with a sign that's no character."""
 
 
 class Faulty(Exception):
@@ -12,3 +16,11 @@ class Faulty(Exception):
         Exception.__init__(self)
         self.line = line
         self.kind = kind
+
+
+class TooManyWays(Exception):
+    """A text with more ways back than are told."""
+
+
+class NoSuchWay(Exception):
+    """A number that no way back from the text has."""

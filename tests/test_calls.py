@@ -5,11 +5,9 @@ import io
 import sys
 import unittest
 
-from helper import asked, begin, joins, many_words, words
+from helper import RUN_JOINS, RUN_WORDS, asked, begin, joins, many, many_words, nth, reading, words
 from sayback.readings import answers
 
-RUN_WORDS = "a A 1 1 10\naa B 2 2 25\nab AD 1 3 12\nb D 3 3 5\n"
-RUN_JOINS = "40\n1 3 9\n"
 LONG = b"x" * 65536
 
 
@@ -26,9 +24,20 @@ class TestAnswers(unittest.TestCase):
     def test_joins_of_the_run(self):
         self.assertEqual(answers(joins(RUN_JOINS)), [1, 1])
 
+    def test_the_run_number_by_number(self):
+        told = words(RUN_WORDS) + joins(RUN_JOINS)
+        self.assertEqual(answers(told + [4, 2, 65, 68]), [1, 4, 1, 1, 1, 5])
+        self.assertEqual(answers(told + [5, 0, 2, 65, 68]), [1, 4, 1, 1, 4, 1, 12, 2, 2])
+        self.assertEqual(answers(told + [5, 2, 2, 65, 68]), [1, 4, 1, 1, 6, 2, 45, 1, -1, 1, 3])
+        self.assertEqual(answers(told + [6, 2, 2, 65, 68]), [1, 4, 1, 1, 3, 2, 65, 98])
+        self.assertEqual(answers(told + [5, 5, 2, 65, 68] + [6, 5, 2, 65, 68]), [1, 4, 1, 1, 1, -5, 1, -5])
+
     def test_rows_of_no_number(self):
         self.assertEqual(answers([2, 0]), [1, 0])
         self.assertEqual(answers([3, 0]), [3, -2, 0, 1])
+        self.assertEqual(answers([4, 0]), [1, -1])
+        self.assertEqual(answers([5, 0, 0]), [1, -1])
+        self.assertEqual(answers([6, 4294967295, 0, 1]), [1, -1, 1, 0])
 
     def test_a_fault_tells_its_line_and_kind(self):
         self.assertEqual(answers(words("a A 0 0 0\nb B 256 0 0\n")), [3, -2, 1, 2])
@@ -41,12 +50,18 @@ class TestAnswers(unittest.TestCase):
     def test_bytes_that_look_like_calls(self):
         self.assertEqual(answers([2, 3, 1, 2, 3, 1, 3, 2, 48, 10]), [3, -2, 0, 1, 1, 0, 1, 0])
 
+    def test_signs_and_numbers_of_ways_that_look_like_calls(self):
+        self.assertEqual(answers([3, 2, 48, 10, 4, 2, 1, 4, 5, 1, 1, 2, 1]), [1, 0, 1, 1, 1, -5, 1, 0])
+        self.assertEqual(answers([3, 2, 48, 10, 5, 0, 2, 5, 6, 6, 0, 1, 6]), [1, 0, 6, 2, 0, 1, -1, 1, -1, 2, 1, 6])
+
     def test_begin_after_words_and_joins(self):
         self.assertEqual(asked(words(RUN_WORDS), joins(RUN_JOINS), begin(), words(RUN_WORDS)), [[4], [1], [0], [4]])
 
     def test_three_hundred_calls(self):
         self.assertEqual(answers(begin() * 300), [1, 0] * 300)
         self.assertEqual(asked(*[words("a A 0 0 0\n")] * 150, *[joins("7\n1 1 1\n")] * 150), [[1]] * 300)
+        told = asked(*[many("AD"), words(RUN_WORDS), nth(4, "AD"), joins(RUN_JOINS), reading(0, "AD"), begin()] * 50)
+        self.assertEqual(told, [[1], [4], [2, 131070, 1, -1, 1, -1], [1], [2, 97, 98], [0]] * 50)
 
     def test_the_longest_row_of_a_list(self):
         self.assertEqual(asked(words("\n" * 29000), joins("1" * 29000)), [[-2, 0, 1], [-2, 0, 1]])
@@ -54,7 +69,8 @@ class TestAnswers(unittest.TestCase):
         self.assertEqual(asked(words("a" * 28991 + " A 0 0 0\n")), [[-2, 0, 2]])
 
     def test_whole_numbers_alone(self):
-        told = answers(begin() + words(RUN_WORDS) + joins(RUN_JOINS) + words("x") + words(LONG + b"x"))
+        asks = many("AD") + nth(3, "AD") + reading(3, "AD") + nth(5, "AD") + many("") + many([0xD800])
+        told = answers(begin() + words(RUN_WORDS) + joins(RUN_JOINS) + words("x") + words(LONG + b"x") + asks)
         self.assertIs(type(told), list)
         self.assertEqual({type(number) for number in told}, {int})
 
@@ -82,6 +98,7 @@ class TestLength(unittest.TestCase):
 
 class TestNothingElse(unittest.TestCase):
     calls = begin() + words(RUN_WORDS) + joins(RUN_JOINS) + words("x\n") + joins("0\n0 0 0\n")
+    calls += many("AD") + nth(2, "ADB") + reading(7, "AADB") + many([]) + reading(0, [0xD800]) + nth(9, "AD")
 
     def test_what_is_handed_in_is_not_changed(self):
         handed = list(self.calls)
@@ -100,10 +117,11 @@ class TestNothingElse(unittest.TestCase):
 
     def test_nothing_is_kept(self):
         first = answers(self.calls)
-        answers(words(many_words(128)) + joins("1\n2 3 4\n"))
+        answers(words(many_words(128)) + joins("1\n2 3 4\n") + many("AD") + nth(0, "AD"))
         self.assertEqual(answers(self.calls), first)
         first.append(0)
         self.assertEqual(answers(self.calls), first[:-1])
+        self.assertEqual(answers(nth(0, "AD")), [6, 2, 131070, 1, -1, 1, -1])
         self.assertEqual(answers([]), [])
 
     def test_nothing_is_printed_or_read(self):
@@ -128,9 +146,11 @@ class TestNothingElse(unittest.TestCase):
         sys.setrecursionlimit(depth + 50)
         try:
             told = answers(words("\n" * 29000) + begin() * 200)
+            ways = answers(words("a A 0 0 0\n") + nth(1023, "A" * 10 + "z" * 14) + many("A" * 24))
         finally:
             sys.setrecursionlimit(limit)
         self.assertEqual(len(told), 404)
+        self.assertEqual((len(ways), ways[-1]), (2 + 1 + 2 + 48 + 2, -6))
 
 
 if __name__ == "__main__":

@@ -2,9 +2,9 @@
 
 import unittest
 
-from helper import kept, lines, many_words, octets, row
+from helper import kept, lines, many_words, octets, row, signs
 from sayback.keeper import Keeper
-from sayback.refusals import Faulty, TooLong
+from sayback.refusals import Faulty, NoCharacter, NoSuchWay, TooManyWays, WrongLength
 
 NEW = ([], 65535, {})
 WORDS = lines("b B 0 0 0", "a A 1 2 3")
@@ -63,6 +63,15 @@ class TestKeeper(unittest.TestCase):
         keeper.take_joins(joins)
         self.assertEqual((words, joins), (octets(WORDS), octets(JOINS)))
 
+    def test_asking_changes_neither_the_object_nor_the_signs(self):
+        keeper = filled()
+        before = kept(keeper)
+        text = signs("AAB")
+        self.assertEqual(keeper.count_ways(text), 8)
+        self.assertEqual([piece.number for piece in keeper.nth_way(0, text).pieces], [0, 0, 1])
+        self.assertEqual(text, signs("AAB"))
+        self.assertEqual(kept(keeper), before)
+
 
 class TestRefused(unittest.TestCase):
     def test_wrong_words_change_nothing(self):
@@ -84,11 +93,24 @@ class TestRefused(unittest.TestCase):
     def test_too_long_changes_nothing(self):
         keeper = filled()
         before = kept(keeper)
-        with self.assertRaises(TooLong):
+        with self.assertRaises(WrongLength):
             keeper.take_words(octets("a A 0 0 0\n" * 6554))
-        with self.assertRaises(TooLong):
+        with self.assertRaises(WrongLength):
             keeper.take_joins(octets("5\n" + "0" * 65535))
         self.assertEqual(kept(keeper), before)
+
+    def test_refused_texts_of_signs_change_nothing(self):
+        keeper = filled()
+        before = kept(keeper)
+        for text, error in (([], WrongLength), (signs("A" * 25), WrongLength), (signs("A" * 23) + [0xD800], NoCharacter),
+                            (signs("A" * 11), TooManyWays), (signs("A"), NoSuchWay)):
+            for number in (2, 4294967295):
+                with self.assertRaises(error):
+                    keeper.nth_way(number, text)
+            if error != NoSuchWay:
+                with self.assertRaises(error):
+                    keeper.count_ways(text)
+            self.assertEqual(kept(keeper), before)
 
     def test_a_call_behind_a_refused_one(self):
         keeper = filled()
